@@ -20,7 +20,7 @@ func PutOp(b []byte, o api.Op) []byte {
 	return addInt(b, int64(o.Shard))
 }
 
-// GetOp reads an operation; the zero one, if the Reader has met an error.
+// GetOp reads an operation. It answers no error: what stands ahead of one stays as it was read, and End tells of it.
 func GetOp(r *Reader) api.Op {
 	var o api.Op
 	o.Kind = int(r.Int())
@@ -30,9 +30,6 @@ func GetOp(r *Reader) api.Op {
 	o.Key = r.Text()
 	o.Slot = int(r.Int())
 	o.Shard = int(r.Int())
-	if !r.reads() {
-		return api.Op{}
-	}
 	return o
 }
 
@@ -48,16 +45,13 @@ func PutReply(b []byte, p api.Reply) []byte {
 	return b
 }
 
-// GetReply reads an answer; the zero one, if the Reader has met an error.
+// GetReply reads an answer, like GetOp: it has as many rows as Count tells, those behind an error being empty.
 func GetReply(r *Reader) api.Reply {
 	var p api.Reply
 	p.Why = api.Errno(r.Int())
 	p.Amount = r.Int()
 	for range r.Count(mostRows) {
 		p.Rows = append(p.Rows, getRow(r))
-	}
-	if !r.reads() {
-		return api.Reply{}
 	}
 	return p
 }

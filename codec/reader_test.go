@@ -243,31 +243,104 @@ func TestNumbersHaveOneForm(t *testing.T) {
 	}
 }
 
-// P2.4: an operation or an answer that is cut is refused where the read began that met it.
-func TestCutOpAndReply(t *testing.T) {
-	o := PutOp(nil, api.Op{Kind: 300, From: "ann", To: "bob", Amount: 300, Key: "key", Slot: 3, Shard: 2})
-	starts := []int{0, 2, 6, 10, 12, 16, 17}
-	for n := range len(o) {
-		r := NewReader(o[:n])
-		if got := GetOp(r); got != (api.Op{}) || r.End() != api.ErrShort {
-			t.Errorf("GetOp of %d bytes: %v with %d", n, got, r.End())
-		}
-		at := 0
-		for _, s := range starts {
-			if s <= n {
-				at = s
+// P2.4: of an operation that is cut, all reads ahead of the one that met the error answer what they read; it stays where that one began.
+func TestCutOp(t *testing.T) {
+	whole := api.Op{Kind: 300, From: "ann", To: "bob", Amount: 300, Key: "key", Slot: 3, Shard: 2}
+	b := PutOp(nil, whole)
+	steps := []struct {
+		at   int
+		took func(o *api.Op)
+	}{
+		{2, func(o *api.Op) { o.Kind = whole.Kind }},
+		{6, func(o *api.Op) { o.From = whole.From }},
+		{10, func(o *api.Op) { o.To = whole.To }},
+		{12, func(o *api.Op) { o.Amount = whole.Amount }},
+		{16, func(o *api.Op) { o.Key = whole.Key }},
+		{17, func(o *api.Op) { o.Slot = whole.Slot }},
+	}
+	for n := range len(b) {
+		want, at := api.Op{}, 0
+		for _, s := range steps {
+			if s.at <= n {
+				s.took(&want)
+				at = s.at
 			}
 		}
-		if r.At() != at {
-			t.Errorf("GetOp of %d bytes: at %d, want %d", n, r.At(), at)
+		r := NewReader(b[:n])
+		if got := GetOp(r); got != want || r.At() != at || r.End() != api.ErrShort {
+			t.Errorf("GetOp of %d bytes: %v, at %d with %d, want %v at %d", n, got, r.At(), r.End(), want, at)
 		}
 	}
-	p := PutReply(nil, api.Reply{Why: 300, Amount: 300, Rows: []api.Row{{Name: "ann", Amount: 1}, {Name: "bob", Amount: 300}}})
-	for n := range len(p) {
-		r := NewReader(p[:n])
-		if got := GetReply(r); !sameReply(got, api.Reply{}) || r.End() != api.ErrShort {
-			t.Errorf("GetReply of %d bytes: %v with %d", n, got, r.End())
+}
+
+// P2.4: of an answer that is cut, too; it has as many rows as Count told, those behind the error being empty.
+func TestCutReply(t *testing.T) {
+	ann, bob := api.Row{Name: "ann", Amount: 1}, api.Row{Name: "bob", Amount: 300}
+	b := PutReply(nil, api.Reply{Why: 300, Amount: 301, Rows: []api.Row{ann, bob}})
+	half := api.Row{Name: "bob"}
+	steps := []struct {
+		from, at int
+		want     api.Reply
+	}{
+		{0, 0, api.Reply{}},
+		{2, 2, api.Reply{Why: 300}},
+		{4, 4, api.Reply{Why: 300, Amount: 301}},
+		// The rows' number needs as many bytes behind it.
+		{7, 5, api.Reply{Why: 300, Amount: 301, Rows: make([]api.Row, 2)}},
+		{9, 9, api.Reply{Why: 300, Amount: 301, Rows: []api.Row{{Name: "ann"}, {}}}},
+		{10, 10, api.Reply{Why: 300, Amount: 301, Rows: []api.Row{ann, {}}}},
+		{14, 14, api.Reply{Why: 300, Amount: 301, Rows: []api.Row{ann, half}}},
+	}
+	for n := range len(b) {
+		c := steps[0]
+		for _, s := range steps {
+			if s.from <= n {
+				c = s
+			}
 		}
+		r := NewReader(b[:n])
+		if got := GetReply(r); !sameReply(got, c.want) || r.At() != c.at || r.End() != api.ErrShort {
+			t.Errorf("GetReply of %d bytes: %v, at %d with %d, want %v at %d", n, got, r.At(), r.End(), c.want, c.at)
+		}
+	}
+}
+
+// P2.4, P2.2: a read within an operation or an answer that meets another error than ErrShort leaves what stands ahead of it, too.
+func TestWrongOpAndReply(t *testing.T) {
+	for _, c := range []struct {
+		b    string
+		want api.Op
+		at   int
+		why  api.Errno
+	}{
+		{"81 00", api.Op{}, 0, api.ErrForm},
+		{"03 81 80 04", api.Op{Kind: -2}, 1, api.ErrSize},
+		{"03 01 61 81 00 62 04 01 6b 00 00", api.Op{Kind: -2, From: "a"}, 3, api.ErrForm},
+		{"03 01 61 01 62 ff ff ff ff ff ff ff ff ff 02", api.Op{Kind: -2, From: "a", To: "b"}, 5, api.ErrForm},
+		{"03 00 00 01 00 02 80 00", api.Op{Kind: -2, Amount: -1, Slot: 1}, 6, api.ErrForm},
+	} {
+		r := NewReader(fromHex(t, c.b))
+		if got := GetOp(r); got != c.want || r.At() != c.at || r.End() != c.why {
+			t.Errorf("GetOp of %s: %v, at %d with %d", c.b, got, r.At(), r.End())
+		}
+		checkStuck(t, "GetOp of "+c.b, r, c.at, c.why)
+	}
+	for _, c := range []struct {
+		b    string
+		want api.Reply
+		at   int
+		why  api.Errno
+	}{
+		{"0e 80 00 00", api.Reply{Why: 7}, 1, api.ErrForm},
+		{"0e 10 82 00 00", api.Reply{Why: 7, Amount: 8}, 2, api.ErrForm},
+		{"01 01 03 81 80 04 00 00 00", api.Reply{Why: -1, Amount: -1, Rows: make([]api.Row, 3)}, 3, api.ErrSize},
+		{"00 00 02 01 61 80 00 01 62 02", api.Reply{Rows: []api.Row{{Name: "a"}, {}}}, 5, api.ErrForm},
+	} {
+		r := NewReader(fromHex(t, c.b))
+		if got := GetReply(r); !sameReply(got, c.want) || r.At() != c.at || r.End() != c.why {
+			t.Errorf("GetReply of %s: %v, at %d with %d", c.b, got, r.At(), r.End())
+		}
+		checkStuck(t, "GetReply of "+c.b, r, c.at, c.why)
 	}
 }
 
@@ -284,7 +357,7 @@ func TestMostOfOpAndReply(t *testing.T) {
 		r := NewReader(PutReply(nil, p))
 		got := GetReply(r)
 		if c.why != api.OK {
-			p = api.Reply{}
+			p.Rows = nil
 		}
 		if !sameReply(got, p) || r.End() != c.why {
 			t.Errorf("GetReply of %d rows: %d rows with %d, want %d", c.rows, len(got.Rows), r.End(), c.why)
@@ -294,7 +367,7 @@ func TestMostOfOpAndReply(t *testing.T) {
 		o := api.Op{Kind: 1, To: string(make([]byte, n))}
 		r := NewReader(PutOp(nil, o))
 		got, why := GetOp(r), r.End()
-		if n == api.MaxBytes && (got != o || why != api.OK) || n > api.MaxBytes && (got != api.Op{} || why != api.ErrSize || r.At() != 2) {
+		if n == api.MaxBytes && (got != o || why != api.OK) || n > api.MaxBytes && (got != api.Op{Kind: 1} || why != api.ErrSize || r.At() != 2) {
 			t.Errorf("GetOp of a text of %d bytes: at %d with %d", n, r.At(), why)
 		}
 	}
