@@ -83,7 +83,7 @@ func TestFitsRows(t *testing.T) {
 	}
 }
 
-// P12.3: of a wrong operation just that error fits.
+// P12.3: of a wrong operation just that error fits, whatever stands beside it.
 func TestFitsWrong(t *testing.T) {
 	for _, c := range []struct {
 		o    api.Op
@@ -101,8 +101,10 @@ func TestFitsWrong(t *testing.T) {
 		{transfer("ann", "ann", 1, "k"), api.ErrSelf},
 	} {
 		for _, why := range errors() {
-			if got := Fits(c.o, api.Reply{Why: why}); got != (why == c.want) {
-				t.Errorf("Fits of %+v with %d: %v", c.o, why, got)
+			for _, r := range []api.Reply{{Why: why}, {Why: why, Amount: 1}, {Why: why, Rows: []api.Row{{Name: "ann"}}}} {
+				if got := Fits(c.o, r); got != (why == c.want) {
+					t.Errorf("Fits of %+v with %+v: %v", c.o, r, got)
+				}
 			}
 		}
 	}
