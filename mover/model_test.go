@@ -18,15 +18,16 @@ type plain struct {
 	gone  int
 }
 
-func (p *plain) meet(n int64) {
-	if p.n != n {
-		*p = plain{n: n}
+// meet is what comes of being asked or told of a move, or of none, which is in the phase 0.
+func (p *plain) meet(x chart.Moving) {
+	if p.n != x.N || x.Phase == 0 {
+		*p = plain{n: x.N}
 	}
 }
 
 // asks is what is to be asked.
 func (p *plain) asks(x chart.Moving) []txn.Ask {
-	p.meet(x.N)
+	p.meet(x)
 	c := shard.Cmd{Slot: x.Slot, Epoch: x.Epoch}
 	switch name := fmt.Sprint(x.Phase, " ", len(p.bytes)); name {
 	case "1 0", "1 1", "2 0":
@@ -49,7 +50,7 @@ func (p *plain) asks(x chart.Moving) []txn.Ask {
 
 // told is what is to come of an answer.
 func (p *plain) told(x chart.Moving, a txn.Ask, r shard.Result) (chart.Cmd, bool) {
-	p.meet(x.N)
+	p.meet(x)
 	group := map[int]int{8: x.From, 9: x.To, 10: x.From}[a.Cmd.Kind]
 	if a.Group != group || a.Cmd.Slot != x.Slot || a.Cmd.Epoch != x.Epoch {
 		return chart.Cmd{}, false

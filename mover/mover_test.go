@@ -66,10 +66,10 @@ func TestNew(t *testing.T) {
 	}
 }
 
-// P16.1, P1: phases that there are not; what it has stays.
+// P16.1, P1: phases that there are not; what it has stays, as the number is the same.
 func TestAsksOfNoPhase(t *testing.T) {
 	m := with(t, counted(1500), 1000)
-	for _, phase := range []int{chart.Idle, -1, 4, 5, math.MinInt, math.MaxInt} {
+	for _, phase := range []int{-1, 4, 5, math.MinInt, math.MaxInt} {
 		wantAsks(t, m, moving(phase))
 		for _, c := range []txn.Ask{{Group: 1, Cmd: hold(3, 4)}, {Group: 2, Cmd: install(3, 4, 1000, true, counted(500))}, {Group: 1, Cmd: drop(3, 4)}} {
 			wantNothing(t, m, moving(phase), c, shard.Result{Data: counted(7)})
@@ -183,6 +183,31 @@ func TestForgets(t *testing.T) {
 	wantHas(t, m, -1, 0)
 }
 
+// P16.1, P16.2, P16.3: of the phase Idle there is no move: it forgets, asked or told, whatever stands beside that phase.
+func TestForgetsOfIdle(t *testing.T) {
+	asks := []txn.Ask{{}, {Group: 1, Cmd: hold(3, 4)}, {Group: 2, Cmd: install(3, 4, 1000, true, counted(500))}, {Group: 1, Cmd: drop(3, 4)}, {Group: 1, Cmd: hold(0, 0)}, {Cmd: hold(0, 0)}}
+	for _, idle := range []chart.Moving{moving(chart.Idle), {N: 9}, {Slot: 3, N: 9}, {Epoch: 4, N: 9}, {From: 1, To: 2, N: 9}, {N: 8}, {}} {
+		for _, has := range []struct{ bytes, gone int }{{1500, 1000}, {1500, 1500}, {7, 0}, {0, 0}} {
+			m := with(t, counted(has.bytes), has.gone)
+			wantAsks(t, m, idle)
+			wantHas(t, m, -1, 0)
+			for _, a := range asks {
+				m = with(t, counted(has.bytes), has.gone)
+				wantNothing(t, m, idle, a, shard.Result{Data: counted(7)})
+				wantHas(t, m, -1, 0)
+			}
+			// What was forgotten is asked for again, and had again.
+			wantAsks(t, m, moving(chart.Install), txn.Ask{Group: 1, Cmd: hold(3, 4)})
+			wantNothing(t, m, moving(chart.Install), txn.Ask{Group: 1, Cmd: hold(3, 4)}, shard.Result{Data: counted(3)})
+			wantHas(t, m, 3, 0)
+		}
+	}
+	// Asked is asked, even if nobody goes through what is asked.
+	m := with(t, counted(1500), 1000)
+	m.Asks(chart.Moving{N: 9})
+	wantHas(t, m, -1, 0)
+}
+
 // P16.1, P16.2: a move of the same number is the same one, whatever else is told of it.
 func TestKeeps(t *testing.T) {
 	m := with(t, counted(1500), 1000)
@@ -234,10 +259,14 @@ func TestToldOfAnother(t *testing.T) {
 			bad = slices.DeleteFunc(bad, func(a txn.Ask) bool { return sameAsk(a, right[chart.Hold][0]) })
 		}
 		m := with(t, counted(1500), 1000)
+		has, at := 1500, 1000
+		if phase == chart.Idle {
+			has, at = -1, 0
+		}
 		for _, a := range bad {
 			for _, why := range []api.Errno{api.OK, api.ErrState, api.ErrSize, api.ErrRetry} {
 				wantNothing(t, m, moving(phase), a, shard.Result{Why: why, Data: counted(3)})
-				wantHas(t, m, 1500, 1000)
+				wantHas(t, m, has, at)
 			}
 		}
 	}
