@@ -185,7 +185,7 @@ func TestForgetsAll(t *testing.T) {
 	}
 }
 
-// P17.1, P17.2, P17.3: another phase of the same audit makes it forget who has answered; the rows stay.
+// P17.1, P17.2, P17.3: another phase of the same audit makes it forget who has answered; the rows stay behind a Collect in which all have, but not where Collect begins again, as nobody has answered in it yet.
 func TestForgetsAnswers(t *testing.T) {
 	for _, forget := range forgetting {
 		for _, phase := range []int{chart.Thaw, chart.Idle, -1, 5} {
@@ -200,13 +200,43 @@ func TestForgetsAnswers(t *testing.T) {
 			wantLeft(t, a, 2)
 			forget(a, 7, chart.Collect)
 			wantLeft(t, a, 3)
-			wantRows(t, a, row("n1", 1), row("n2", 2), row("n3", 3))
-			// Not all of them have answered again.
+			wantNoRows(t, a)
 			wantNothing(t, a, 7, chart.Collect, freeze(1, 7), told(row("n4", 4)))
-			wantRows(t, a, row("n2", 2), row("n3", 3), row("n4", 4))
+			wantNoRows(t, a)
+			// Not all of them have answered again.
 			forget(a, 7, chart.Thaw)
 			wantAsks(t, a, 7, chart.Thaw, thaw(1, 7), thaw(2, 7), thaw(3, 7))
+			wantNoRows(t, a)
 		}
+	}
+}
+
+// P17.2, P17.3: whoever answered ahead of another phase has not answered behind it: there are no rows until all have answered again, in whatever order, and then they are what was told last.
+func TestForgetsWhoHasAnswered(t *testing.T) {
+	for _, forget := range forgetting {
+		for _, phase := range []int{chart.Thaw, chart.Idle, -1, 5} {
+			for _, order := range [][]int{{1, 2, 3}, {2, 3, 1}, {3, 2, 1}} {
+				for answered := range 4 {
+					wantAnsweredAgain(t, collecting(t, answered), func(a *Auditor) { forget(a, 7, phase) }, order)
+				}
+			}
+		}
+	}
+}
+
+// wantAnsweredAgain asks that behind another phase all three shards have to answer in Collect of the audit 7 once more.
+func wantAnsweredAgain(t *testing.T, a *Auditor, forget func(a *Auditor), order []int) {
+	t.Helper()
+	forget(a)
+	for i, me := range order[:2] {
+		wantNothing(t, a, 7, chart.Collect, freeze(me, 7), told(row(fmt.Sprint("m", me), 9)))
+		wantLeft(t, a, 2-i)
+		wantNoRows(t, a)
+	}
+	wantStep(t, a, 7, chart.Collect, freeze(order[2], 7), told(row(fmt.Sprint("m", order[2]), 9)), cut(7))
+	for _, phase := range []int{chart.Collect, chart.Thaw} {
+		a.Asks(7, phase)
+		wantRows(t, a, row("m1", 9), row("m2", 9), row("m3", 9))
 	}
 }
 

@@ -18,17 +18,21 @@ type plain struct {
 	n        int64
 	phase    int
 	answered map[int]int
+	collect  map[int]int // who has answered in Collect since that began last
 	told     map[int][]api.Row
 }
 
 func newPlain(shards int) *plain {
-	return &plain{shards: shards, answered: map[int]int{}, told: map[int][]api.Row{}}
+	return &plain{shards: shards, answered: map[int]int{}, collect: map[int]int{}, told: map[int][]api.Row{}}
 }
 
 // meet is what comes of being asked or told of an audit in a phase.
 func (p *plain) meet(n int64, phase int) {
 	if p.n != n {
 		p.told = map[int][]api.Row{}
+	}
+	if p.n != n || p.phase != phase && phase == 1 {
+		p.collect = map[int]int{}
 	}
 	if p.n != n || p.phase != phase {
 		p.answered = map[int]int{}
@@ -60,6 +64,7 @@ func (p *plain) learn(n int64, phase int, x txn.Ask, r shard.Result) (chart.Cmd,
 	}
 	p.answered[x.Group]++
 	if phase == 1 {
+		p.collect[x.Group]++
 		p.told[x.Group] = r.Reply.Rows
 	}
 	if len(p.answered) < p.shards {
@@ -70,7 +75,7 @@ func (p *plain) learn(n int64, phase int, x txn.Ask, r shard.Result) (chart.Cmd,
 
 // rows is all rows that are to be told: each goes ahead of the first one that has a greater name.
 func (p *plain) rows() ([]api.Row, bool) {
-	if len(p.told) < p.shards {
+	if len(p.collect) < p.shards {
 		return nil, false
 	}
 	var l []api.Row
