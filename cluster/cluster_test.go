@@ -387,27 +387,36 @@ func TestCopies(t *testing.T) {
 	}
 }
 
-// P20.2: of two that lead a group, the one of the greater term is its leader; and Busy asks that one.
+// P20.2: of two that lead a group, the one of the greater term is its leader, whoever comes first.
 func TestLeader(t *testing.T) {
-	c := newCluster(t, 3, 1, 128)
-	rounds(c, 12)
-	elder := c.Leader(1)
-	for range 60 { // the elder leader hears nothing, and nobody hears it
-		for i := range 3 {
-			if i != elder {
-				c.Do(api.Event{Kind: api.EvTick, Node: i})
+	for elder := range 3 {
+		c := newCluster(t, 3, 1, 128)
+		for range 20 {
+			c.Do(api.Event{Kind: api.EvTick, Node: elder})
+			for c.Flight() > 0 {
+				c.Do(api.Event{Kind: api.EvDeliver})
 			}
 		}
-		for k := c.Flight(); k > 0; k-- {
-			deliverAmongOthers(c, elder)
+		if c.Leader(1) != elder {
+			t.Fatalf("Leader %d; want %d", c.Leader(1), elder)
 		}
-	}
-	leader := c.Leader(1)
-	if leader == elder || leader < 0 || c.Node(elder).Info(1).Role != api.Leader || c.Node(elder).Info(1).Term >= c.Node(leader).Info(1).Term {
-		t.Fatalf("Leader %d, and the elder one %d: %+v", leader, elder, c.Node(elder).Info(1))
-	}
-	if rounds(c, 2); c.Leader(1) != leader || c.Node(elder).Info(1).Role == api.Leader {
-		t.Errorf("Leader %d, and the elder one %d: %+v", c.Leader(1), elder, c.Node(elder).Info(1))
+		for range 60 { // the elder leader hears nothing, and nobody hears it
+			for i := range 3 {
+				if i != elder {
+					c.Do(api.Event{Kind: api.EvTick, Node: i})
+				}
+			}
+			for k := c.Flight(); k > 0; k-- {
+				deliverAmongOthers(c, elder)
+			}
+		}
+		leader := c.Leader(1)
+		if leader == elder || leader < 0 || c.Node(elder).Info(1).Role != api.Leader || c.Node(elder).Info(1).Term >= c.Node(leader).Info(1).Term {
+			t.Fatalf("Leader %d, and the elder one %d: %+v", leader, elder, c.Node(elder).Info(1))
+		}
+		if rounds(c, 2); c.Leader(1) != leader || c.Node(elder).Info(1).Role == api.Leader {
+			t.Errorf("Leader %d, and the elder one %d: %+v", c.Leader(1), elder, c.Node(elder).Info(1))
+		}
 	}
 }
 
@@ -500,4 +509,36 @@ func TestOnlyToldIsHeard(t *testing.T) {
 	c.letters.Send(0, net.Client, b)
 	wantTold(t, c.Do(api.Event{Kind: api.EvDeliver}), api.Told{Reply: api.Reply{Why: api.ErrRetry}})
 	wantTold(t, c.Do(api.Event{Kind: api.EvDeliver}))
+}
+
+// Rule 4: what is told shares no memory with what the desk keeps.
+func TestToldIsACopy(t *testing.T) {
+	c := newCluster(t, 1, 1, 128)
+	rounds(c, 12)
+	c.Do(api.Event{Kind: api.EvCall, Op: api.Op{Kind: api.Open, From: "ann", Key: "o"}})
+	rounds(c, 1)
+	c.Do(api.Event{Kind: api.EvCall, Op: api.Op{Kind: api.Audit}})
+	told := rounds(c, 3)
+	want := api.Reply{Rows: []api.Row{{Name: "ann"}}}
+	wantTold(t, told, api.Told{Call: 1, Reply: want})
+	told[0].Reply.Rows[0].Name = "spoilt"
+	_, r, _ := c.Call(1)
+	if !sameReply(r, want) {
+		t.Fatalf("%+v", r)
+	}
+	r.Rows[0].Name = "spoilt"
+	if _, r, _ = c.Call(1); !sameReply(r, want) {
+		t.Fatalf("%+v", r)
+	}
+}
+
+// P1: a cluster that nobody made has no machines.
+func TestNobodyMade(t *testing.T) {
+	c := &Cluster{}
+	for kind := -1; kind <= 11; kind++ {
+		wantTold(t, c.Do(api.Event{Kind: kind, N: 1}))
+	}
+	if c.Calls() != 0 || c.Flight() != 0 || c.Nodes() != 0 || len(c.Images()) != 0 || c.Up(0) || c.Leader(0) != -1 || len(openCalls(c)) != 0 {
+		t.Error("something is there")
+	}
 }

@@ -14,10 +14,13 @@ var (
 	first   = flag.Int64("first", 0, "the first script's seed")
 )
 
-// keyed is an operation on few accounts, of few keys, so that some ask for another one again.
+// keyed is an operation on few accounts, of few keys; some ask for another one again.
 func (p *play) keyed() (api.Op, bool) {
 	if p.counting() >= 16 { // the order of many is long to be found
 		return api.Op{}, false
+	}
+	if p.r.Intn(3) == 0 {
+		return p.calls[len(p.calls)-1-p.r.Intn(min(len(p.calls), 6))].op, true
 	}
 	from, to := p.two()
 	o := api.Op{From: from, Key: fmt.Sprint("k", p.r.Intn(8)), Amount: 1 + p.r.Int63n(5)}
@@ -149,4 +152,61 @@ func (p *play) wantAll(r api.Reply, names []string, amount int64) {
 	if !right || sum != amount*int64(len(names)) {
 		p.fail(fmt.Sprintf("an audit: %+v", r))
 	}
+}
+
+// P20.3, P6: where disks have no room for all that is asked, nothing more is begun, and no machine is dead of that, whatever the script.
+func TestLittleRoom(t *testing.T) {
+	for seed := *first; seed < *first+int64(*scripts)/5; seed++ {
+		r := rand.New(rand.NewSource(seed))
+		p := newPlay(t, seed, 1+r.Intn(5), 1+r.Intn(3), []int{64, 70, 90, 128, 200}[r.Intn(5)])
+		for range 20 {
+			p.do(api.Event{Kind: api.EvRound})
+		}
+		keys := 0
+		op := func() (api.Op, bool) {
+			keys++
+			return p.great(keys), p.c.Calls() < api.MaxScript
+		}
+		for range 1500 {
+			if o, is := op(); is && r.Intn(3) == 0 {
+				p.call(o)
+			}
+			p.step(op)
+		}
+		p.recover()
+		for i := range 100 {
+			if o, is := op(); is {
+				p.call(o)
+			}
+			p.do(api.Event{Kind: api.EvRound})
+			for k := range p.c.Nodes() {
+				if !p.c.Up(k) {
+					p.fail(fmt.Sprintf("behind %d quiet rounds the machine %d is dead", i, k))
+				}
+			}
+		}
+		p.recover()
+	}
+}
+
+// great is an operation of long names and keys.
+func (p *play) great(k int) api.Op {
+	from, to := p.r.Intn(40), p.r.Intn(39)
+	if to >= from {
+		to++
+	}
+	name := func(i int) string { return fmt.Sprintf("an_account_of_%010d", i) }
+	o := api.Op{Kind: api.Transfer, From: name(from), To: name(to), Amount: 1 + p.r.Int63n(1<<20), Key: fmt.Sprintf("a_key_of_%015d", k)}
+	switch p.r.Intn(9) {
+	case 0, 1:
+		o.Kind = api.Open
+	case 2:
+		o.Kind, o.Amount = api.Deposit, 1<<50
+	case 3:
+		o = p.move()
+		o.Slot = p.r.Intn(api.Slots)
+	case 4:
+		o = api.Op{Kind: api.Audit}
+	}
+	return o
 }

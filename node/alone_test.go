@@ -202,3 +202,26 @@ func TestAloneWithNoRoom(t *testing.T) {
 		}
 	}
 }
+
+// P19.3, P6: what is under way is counted with what takes room, ahead of taking any.
+func TestRoomForWhatIsUnderWay(t *testing.T) {
+	w := newTrio(t, 2, 256)
+	for _, name := range []string{"ann", "dora"} {
+		w.wantAnswer(open(name, "o"), api.Reply{})
+	}
+	w.wantAnswer(deposit("ann", 9, "d"), api.Reply{})
+	x := w.nodes[0]
+	rest := x.space.needed(x.groups, false)
+	w.call(0, 1, transfer("ann", "dora", 4, "t"))
+	proposed := x.space.needed(x.groups, false)
+	if least := growth * len("ann/t/1.1 dora"); proposed < rest+least {
+		t.Errorf("%d bytes are needed, and were %d", proposed, rest)
+	}
+	w.arrive()
+	if begun := x.space.needed(x.groups, false); begun <= rest+len("ann/t/1.1 dora") {
+		t.Errorf("%d bytes are needed, and were %d", begun, rest)
+	}
+	if moving := x.space.needed(x.groups, true); moving < rest+x.groups[1].size() {
+		t.Errorf("%d bytes are needed for a slot that moves, and were %d", moving, rest)
+	}
+}

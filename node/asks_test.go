@@ -5,6 +5,7 @@ import (
 	"testing"
 
 	"almoner/api"
+	"almoner/chart"
 	"almoner/client"
 	"almoner/crc"
 	"almoner/shard"
@@ -259,5 +260,168 @@ func TestAuditGoesOn(t *testing.T) {
 		if x.Shard(1).Busy()+x.Shard(2).Busy() > 0 {
 			t.Errorf("the machine %d has a frozen shard", i)
 		}
+	}
+}
+
+// P6: of a list that is longer than what is asked for with one tick each transfer has its turn, whatever becomes of the others.
+func TestTurns(t *testing.T) {
+	for _, n := range []int{0, 1, mostAsked, mostAsked + 1, 50, 60, 199} {
+		l := make([]shard.Txn, n)
+		for i := range l {
+			l[i].Id = fmt.Sprint(i)
+		}
+		g := newGroup(1, 2)
+		seen := map[string]int{}
+		for range (n + mostAsked - 1) / mostAsked {
+			part := g.next(l)
+			if len(part) != min(n, mostAsked) {
+				t.Fatalf("%d of %d are asked for", len(part), n)
+			}
+			for _, x := range part {
+				seen[x.Id]++
+			}
+		}
+		if len(seen) != n {
+			t.Errorf("%d of %d have their turn", len(seen), n)
+		}
+	}
+}
+
+// P19.1 (asks): an answer that does not tell of the group that was asked does nothing; of two answers that come ahead of what follows, that is proposed once; and a leader that can not reach a majority takes but some commands that are asked for.
+func TestWhatFollowsAnAnswer(t *testing.T) {
+	w := newTrio(t, 2, 512)
+	for _, name := range []string{"ann", "dora"} {
+		w.wantAnswer(open(name, "o"), api.Reply{})
+	}
+	w.wantAnswer(deposit("ann", 9, "d"), api.Reply{})
+	w.call(0, 5, transfer("ann", "dora", 4, "t"))
+	w.arrive()
+	x := w.nodes[0]
+	last := func(g int) int64 {
+		at, _ := x.groups[g].Log().Last()
+		return at
+	}
+	prepare := shard.Cmd{Kind: shard.CmdPrepare, Id: x.Shard(1).Pending()[0].Id, Name: "dora", N: 4}
+	before := last(1)
+	wrong := unpack(t, answerOf(t, 1, 2, prepare, shard.Result{Why: api.ErrNone}))
+	wrong.Group = 1
+	w.settle(0, x.Handle(1, pack(t, wrong)))
+	if last(1) != before {
+		t.Fatal("something follows an answer of another group")
+	}
+	for range 3 {
+		w.settle(0, x.Handle(1, answerOf(t, 1, 2, prepare, shard.Result{Why: api.ErrNone})))
+	}
+	if last(1) != before+1 {
+		t.Fatalf("%d commands follow; want 1", last(1)-before)
+	}
+	w.arrive()
+	w.wantToldOf(told{0, 5, api.Reply{Why: api.ErrNone}})
+
+	w.away[0] = 1
+	before = last(2)
+	for k := range int64(500) {
+		w.settle(0, x.Handle(1, askOf(t, 0, 2, shard.Cmd{Kind: shard.CmdThaw, Epoch: k})))
+	}
+	if n := last(2) - before; n < 2 || n > mostAhead {
+		t.Errorf("it takes %d commands", n)
+	}
+}
+
+// roundsOf lets rounds go by in which just these messages arrive, and no letter else.
+func (w *world) roundsOf(n int, arrives func(m api.Msg) bool) {
+	w.t.Helper()
+	for range n {
+		for i := range w.nodes {
+			w.tick(i)
+		}
+		for len(w.flight) > 0 {
+			if m, is := messageOf(w.t, w.flight[0].data); is && arrives(m) {
+				w.deliver(0, false)
+			} else {
+				w.flight = w.flight[1:]
+			}
+		}
+	}
+}
+
+// P6: where the leader of an audit has all answers, but what follows is overtaken, it asks again when it leads again.
+func TestAuditOfALeaderThatLeadsAgain(t *testing.T) {
+	w := newTrio(t, 2, 256)
+	w.wantAnswer(open("ann", "o"), api.Reply{})
+	w.call(0, 5, api.Op{Kind: api.Audit})
+	w.arrive()
+	w.roundsOf(3, func(m api.Msg) bool { return m.Group > 0 || len(m.Entries) == 0 })
+	if _, phase := w.nodes[0].Chart().Audit(); phase != chart.Collect || len(w.nodes[0].groups[0].orders) == 0 {
+		t.Fatalf("the audit is in the phase %d, %v wait", phase, w.nodes[0].groups[0].orders)
+	}
+	ofTheChart := func(m api.Msg) bool { return m.Group == 0 }
+	w.away[0] = 1
+	w.roundsOf(15, ofTheChart)
+	if w.leader(0) != 1 {
+		t.Fatalf("%d leads", w.leader(0))
+	}
+	clear(w.away)
+	w.roundsOf(2, ofTheChart)
+	w.away[1] = 1
+	w.roundsOf(15, ofTheChart)
+	if _, phase := w.nodes[0].Chart().Audit(); w.leader(0) != 0 || phase != chart.Collect || w.nodes[0].Info(0).Term < 3 {
+		t.Fatalf("%d leads, in the phase %d: %+v", w.leader(0), phase, w.nodes[0].Info(0))
+	}
+	for range 60 {
+		for i := range w.nodes {
+			if !w.nodes[i].groups[0].leads() || i == 0 {
+				w.tick(i)
+			}
+		}
+		w.arrive()
+	}
+	if n, _ := w.nodes[0].Chart().Audit(); n != 0 {
+		t.Error("the audit is not over")
+	}
+	w.wantToldOf(told{0, 5, api.Reply{Rows: []api.Row{{Name: "ann"}}}})
+}
+
+// P6: where the log has no room for what follows an audit's last answer, the shards are asked again.
+func TestAuditOfAFullLog(t *testing.T) {
+	w := newTrio(t, 1, api.MaxSectors)
+	w.wantAnswer(open("ann", "o"), api.Reply{})
+	w.call(0, 5, api.Op{Kind: api.Audit})
+	w.arrive()
+	g := w.nodes[0].groups[0]
+	for {
+		if _, _, why := g.Propose(nil); why != api.OK {
+			break
+		}
+	}
+	g.touched = true
+	if g.Log().Len() != api.MaxLog {
+		t.Fatalf("the log has %d entries", g.Log().Len())
+	}
+	w.tick(0)
+	for len(w.flight) > 0 {
+		if m, is := messageOf(t, w.flight[0].data); is && m.Group == 0 {
+			w.flight = w.flight[1:]
+			continue
+		}
+		w.deliver(0, false)
+	}
+	w.wantToldOf()
+	w.rounds(5)
+	w.wantToldOf(told{0, 5, api.Reply{Rows: []api.Row{{Name: "ann"}}}})
+}
+
+// P19.1 (asks): what another leader has overtaken is not under way any more.
+func TestOvertakenIsNotUnderWay(t *testing.T) {
+	w := newTrio(t, 1, 128)
+	w.away[1], w.away[2] = 1, 1
+	thaw := shard.Cmd{Kind: shard.CmdThaw, Epoch: 3}
+	g := w.nodes[0].groups[1]
+	w.settle(0, w.nodes[0].Handle(1, askOf(t, 0, 1, thaw)))
+	last, _ := g.Log().Last()
+	g.orders[last].term-- // as if the entry there was another leader's
+	w.settle(0, w.nodes[0].Handle(1, askOf(t, 0, 1, thaw)))
+	if now, _ := g.Log().Last(); now != last+1 {
+		t.Errorf("the log ends at %d; want %d", now, last+1)
 	}
 }

@@ -61,7 +61,6 @@ func (x *Node) charted(g *group, c chart.Cmd, r chart.Result, o order) {
 		g.waits[matter{n: r.N}] = o.caller
 	case o.called:
 		x.tell(o.caller, api.Reply{Why: toldOf(c, r)})
-	case r.Why != api.OK:
 	case c.Kind == chart.CmdStep && c.Phase == chart.Drop:
 		x.end(g, matter{n: r.N}, api.Reply{})
 	case c.Kind == chart.CmdCut && o.term > 0:

@@ -332,3 +332,19 @@ func TestDeadTellsNoVote(t *testing.T) {
 	l := x.Handle(2, raftOf(t, api.Msg{Kind: api.Vote, Group: 1, From: 2, To: 0, Term: 1}))
 	wantOuts(t, l, Out{To: 2, Data: raftOf(t, api.Msg{Kind: api.VoteTold, Group: 1, From: 0, To: 2, Term: 1, Ok: true})})
 }
+
+// P1: a machine that nobody made has no groups.
+func TestNobodyMade(t *testing.T) {
+	x := &Node{}
+	wantOuts(t, x.Tick())
+	wantTold(t, x.Handle(-1, callOf(t, 1, balance("ann"))), 1, api.Reply{Why: api.ErrRetry})
+	for _, n := range []int64{-1, 0, 1} {
+		wantOuts(t, x.Handle(0, askOf(t, n, int(n+1), shard.Cmd{Kind: shard.CmdThaw})))
+		wantOuts(t, x.Handle(0, answerOf(t, n, int(n+1), shard.Cmd{Kind: shard.CmdThaw}, shard.Result{})))
+	}
+	wantOuts(t, x.Handle(1, raftOf(t, api.Msg{Kind: api.Vote, From: 1, Term: 1})))
+	x.Draw(1)
+	if x.Dead() || x.Chart() != nil || x.Shard(1) != nil || x.Info(0) != (raft.Info{}) || x.Applied(0) != 0 {
+		t.Error("something is there")
+	}
+}

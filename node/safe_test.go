@@ -9,6 +9,7 @@ import (
 	"almoner/api"
 	"almoner/disk"
 	"almoner/raft"
+	"almoner/shard"
 )
 
 // step is one that goes wrong in one of many ways.
@@ -221,8 +222,8 @@ func TestPowerWithinAChange(t *testing.T) {
 			x.groups[1].Step(api.Msg{Kind: api.Add, Group: 1, From: 0, To: 1, Term: term, Index: index, LogTerm: of, Entries: entries(term, n)})
 		}
 	}
-	image := newNode(t, 0, 1, 1, newDisk(t, 64)).Shard(1).Image()
 	snap := func(term, index, of int64) func(x *Node) {
+		image := greatImage(t, index)
 		return func(x *Node) {
 			x.groups[1].Step(api.Msg{Kind: api.Snap, Group: 1, From: 0, To: 1, Term: term, Index: index, LogTerm: of, Ok: true, Data: image})
 			x.install(x.groups[1])
@@ -237,7 +238,7 @@ func TestPowerWithinAChange(t *testing.T) {
 		{{"entries", add(1, 0, 0, 5)}, {"a snapshot of another log", snap(2, 3, 2)}, {"entries behind it", add(3, 3, 2, 6)}},
 		{{"a snapshot", snap(1, 3, 1)}, {"another one", snap(2, 9, 2)}, {"a third one", snap(3, 12, 2)}},
 	} {
-		d := newDisk(t, 512)
+		d := newDisk(t, 1024)
 		for _, step := range c {
 			batches += cutChange(t, d, step)
 			x := newNode(t, 1, 3, 1, d)
@@ -251,6 +252,23 @@ func TestPowerWithinAChange(t *testing.T) {
 	if batches < 20 {
 		t.Errorf("%d batches: too few to tell anything", batches)
 	}
+}
+
+// greatImage is the image of a shard that has much, another one for each number.
+func greatImage(t *testing.T, k int64) []byte {
+	t.Helper()
+	s, why := shard.New(1, 1)
+	if why != api.OK {
+		t.Fatalf("shard.New: %d", why)
+	}
+	for i := range 150 + k {
+		s.Do(shard.Cmd{Kind: shard.CmdOp, Op: open(fmt.Sprintf("an_account_%d_%d", k, i), "a_key_of_many_bytes")})
+	}
+	if b := s.Image(); len(b) > 2*mostBatch {
+		return b
+	}
+	t.Fatal("the image is small")
+	return nil
 }
 
 // cutChange does a change on copies of a disk, of which more and more batches are written; it answers how many there are.

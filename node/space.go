@@ -7,8 +7,9 @@ import (
 
 const (
 	mostAhead  = 24   // how many entries may wait to be agreed on, ahead of one more that is taken
-	leastAhead = 4    // the same, however small the disk is
+	leastAhead = 2    // the same, however small the disk is
 	mostWeight = 4000 // bytes of entries behind which a log is compacted, however great the disk is
+	growth     = 4    // how many bytes come of a byte of an entry, at most: a transfer is at two shards for a while, each of which has its id twice
 )
 
 // space is how much a machine may keep on its disk. A machine whose disk is full is dead, and with it, soon, all that keep the same: what would not have room is not begun.
@@ -57,8 +58,8 @@ func grows(o api.Op) bool {
 func (s space) needed(all []*group, moves bool) int {
 	sum, greatest := 0, 0
 	for _, g := range all {
-		size := len(g.image) + g.weight
-		sum += size + s.weight
+		size := g.size()
+		sum += size + max(g.weight, s.weight) + g.coming()
 		greatest = max(greatest, size)
 		moves = moves || g.chart.Move().Phase != chart.Idle
 	}
@@ -67,6 +68,25 @@ func (s space) needed(all []*group, moves bool) int {
 	}
 	if moves {
 		sum += greatest
+	}
+	return sum
+}
+
+// size answers how many bytes what its commands have made takes, or took when its log was compacted.
+func (g *group) size() int {
+	return max(len(g.image), len(g.picture()))
+}
+
+// coming answers how many bytes may come of what is not done yet, and of transfers that the other shard has not prepared.
+func (g *group) coming() int {
+	sum := 0
+	for _, e := range g.Log().Part(g.applied+1, api.MaxLog) {
+		sum += growth * weightOf(e)
+	}
+	for _, t := range g.shard.Pending() {
+		if !t.Done {
+			sum += 2*len(t.Id) + len(t.To)
+		}
 	}
 	return sum
 }
