@@ -4,6 +4,7 @@ import (
 	"flag"
 	"fmt"
 	"math/rand"
+	"slices"
 	"testing"
 
 	"almoner/api"
@@ -209,4 +210,35 @@ func (p *play) great(k int) api.Op {
 		o = api.Op{Kind: api.Audit}
 	}
 	return o
+}
+
+// P6, P20.2: many transfers at once come to their end within a few rounds, and what is on its way for them fits into these.
+func TestManyAtOnce(t *testing.T) {
+	const accounts = 150
+	for n := 3; n <= api.MaxNodes; n++ {
+		p := newPlay(t, 1, n, 3, 2048)
+		var many []string
+		for i := range accounts {
+			many = append(many, fmt.Sprint("a", i))
+		}
+		p.begin(many, 5)
+		for i, name := range many {
+			o := api.Op{Kind: api.Transfer, From: name, To: many[(i+1)%accounts], Amount: 1, Key: "t"}
+			p.do(api.Event{Kind: api.EvCall, Node: leaderOf(t, p.c, name), Op: o})
+			for p.c.Flight() > 0 {
+				p.do(api.Event{Kind: api.EvDeliver})
+			}
+		}
+		if pending := p.c.Busy(); pending < accounts {
+			t.Errorf("%d are busy: too few to tell anything", pending)
+		}
+		for i := 0; p.c.Busy() > 0 || p.c.Flight() > 0; i++ {
+			if i > 30 || p.c.Flight() > 2000 {
+				p.t.Fatalf("%d machines: behind %d rounds %d are busy, %d letters on their way", n, i, p.c.Busy(), p.c.Flight())
+			}
+			p.do(api.Event{Kind: api.EvRound})
+		}
+		slices.Sort(many)
+		p.wantAll(p.ask(api.Op{Kind: api.Audit}), many, 5)
+	}
 }

@@ -14,8 +14,11 @@ import (
 	"almoner/txn"
 )
 
-// mostAsked is for how many transfers a shard asks with one tick: those of a full shard would fill the net.
-const mostAsked = 20
+// The transfers of full shards, asked for and taken all at once, would fill the net: a leader sends an entry again with each one behind it, until it is told that the entry has come.
+const (
+	mostAsked = 8  // for how many transfers a shard asks with one tick
+	mostTaken = 16 // how many entries may wait to be agreed on, ahead of one more that is asked for
+)
 
 // drive is what the leader of the chart drives its move and its audit by. Another leader may have gone on with them: in each term in which it leads it begins anew.
 type drive struct {
@@ -117,7 +120,7 @@ func (x *Node) order(g *group, c shard.Cmd) *order {
 	if o := g.underWay(cmd); o != nil {
 		return o
 	}
-	if g.ahead() >= x.space.ahead || !g.mayBegin(c) {
+	if g.ahead() >= min(x.space.ahead, mostTaken) || !g.mayBegin(c) {
 		return nil
 	}
 	return x.propose(g, cmd)

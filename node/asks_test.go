@@ -323,7 +323,7 @@ func TestWhatFollowsAnAnswer(t *testing.T) {
 	for k := range int64(500) {
 		w.settle(0, x.Handle(1, askOf(t, 0, 2, shard.Cmd{Kind: shard.CmdThaw, Epoch: k})))
 	}
-	if n := last(2) - before; n < 2 || n > mostAhead {
+	if n := last(2) - before; n < 2 || n > mostTaken {
 		t.Errorf("it takes %d commands", n)
 	}
 }
