@@ -303,6 +303,23 @@ func TestStep(t *testing.T) {
 	}
 }
 
+// P22.5: of a call that was told ErrRetry nothing is done, also where it is on its way once more.
+func TestDoubledCall(t *testing.T) {
+	l := newLedger(t, 1, 1)
+	l.Step(api.Event{Kind: api.EvCall, Op: openOf("ann", "o")})
+	l.Step(api.Event{Kind: api.EvDouble})
+	l.Step(api.Event{Kind: api.EvDeliver}) // nobody leads yet
+	l.Step(api.Event{Kind: api.EvDeliver, N: 1})
+	for range 12 {
+		l.Step(at(api.EvTick, 0))
+	}
+	l.Step(api.Event{Kind: api.EvDeliver})
+	wantWhy(t, l, balanceOf("ann"), api.ErrNone)
+	if is, why := history.Linear(l.Calls()); !is || why != api.OK || l.Calls()[0].Reply.Why != api.ErrRetry {
+		t.Errorf("Linear: %v, %d; calls:%s", is, why, show(l.Calls()))
+	}
+}
+
 // P22.3: what is told of a Do's own calls counts alone.
 func TestOthersAreTold(t *testing.T) {
 	l := newLedger(t, 1, 1)

@@ -127,10 +127,28 @@ func (p *play) any(op func() (api.Op, bool)) {
 	case p.r.Intn(12) == 0:
 		p.restart()
 		return
+	case p.r.Intn(4) == 0:
+		p.alone(op)
+		return
 	default:
 		e.Kind, e.N = api.EvDeliver, 0
 	}
 	p.step(e)
+}
+
+// alone lets a machine tick, and another one be asked, while all that any machine sends is lost.
+func (p *play) alone(op func() (api.Op, bool)) {
+	machine := p.r.Intn(p.l.Cluster().Nodes())
+	for range p.r.Intn(40) {
+		p.step(at(api.EvTick, machine))
+		for p.l.Cluster().Flight() > 0 {
+			p.step(at(api.EvDrop, 0))
+		}
+		if o, is := op(); is && p.r.Intn(8) == 0 {
+			p.step(api.Event{Kind: api.EvCall, Node: p.machine(o), Op: o})
+			p.step(at(api.EvDeliver, 0))
+		}
+	}
 }
 
 // move is a move of a slot, mostly of one that has an account of these.
@@ -153,6 +171,29 @@ func (p *play) wantSameAnswers() {
 		asked[c.Op]++
 		if r := p.do(c.Op); !sameReply(r, c.Reply) {
 			p.fail(fmt.Sprintf("%+v: told %+v, and now %+v", c.Op, c.Reply, r))
+		}
+	}
+}
+
+// wantAgreed asks that machines that have done as many commands of a group have the same of it (P8).
+func (p *play) wantAgreed() {
+	p.t.Helper()
+	c := p.l.Cluster()
+	for g := range p.shards + 1 {
+		has := map[int64]string{}
+		for i := range c.Nodes() {
+			x := c.Node(i)
+			if x == nil {
+				continue
+			}
+			image := string(x.Chart().Image())
+			if g > 0 {
+				image = string(x.Shard(g).Image())
+			}
+			if was, is := has[x.Applied(g)]; is && was != image {
+				p.fail(fmt.Sprintf("the group %d is another one at the machine %d", g, i))
+			}
+			has[x.Applied(g)] = image
 		}
 	}
 }

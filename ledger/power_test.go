@@ -2,6 +2,7 @@ package ledger
 
 import (
 	"bytes"
+	"fmt"
 	"math"
 	"testing"
 
@@ -118,6 +119,55 @@ func TestRestart(t *testing.T) {
 		}
 		wantSum(t, l, 5)
 	}
+}
+
+// P22.2, P22.4: a call that no step begins is in no record, also where one of the same number was not told ahead of a Power.
+func TestPowerForgetsNumbers(t *testing.T) {
+	l := newLedger(t, 1, 1)
+	call := api.Event{Kind: api.EvCall, Op: balanceOf("ann")}
+	l.Step(call)
+	l.Step(api.Event{Kind: api.EvDrop})
+	wantPower(t, l, nil)
+	l.Cluster().Do(call)
+	if n := l.Step(api.Event{Kind: api.EvRound}); n != 1 {
+		t.Errorf("%d answers", n)
+	}
+	if c := l.Calls(); len(c) != 1 || c[0].Told {
+		t.Errorf("Calls:%s", show(c))
+	}
+}
+
+// P22.4: Restart keeps each write to its last byte.
+func TestRestartKeepsAll(t *testing.T) {
+	l := newLedger(t, 3, 1)
+	wantWhy(t, l, openOf("ann", "o"), api.OK)
+	wantQuiet(t, l)
+	leader := l.Cluster().Leader(1)
+	other := (leader + 1) % 3
+	for k := range 10 {
+		l.Step(api.Event{Kind: api.EvCall, Node: leader, Op: depositOf("ann", 1, fmt.Sprint("a_key_of_many_letters_", k))})
+	}
+	for range 10 {
+		l.Step(api.Event{Kind: api.EvDeliver})
+	}
+	for l.Cluster().Flight() > 2 {
+		l.Step(api.Event{Kind: api.EvDrop}) // what is left has all ten
+	}
+	l.Step(at(api.EvFail, other))
+	l.Step(api.Event{Kind: api.EvDeliver})
+	l.Step(api.Event{Kind: api.EvDeliver})
+	d := l.Cluster().Disk(other)
+	most := d.Copy()
+	most.Crash([]int{255, 255, 255, 255, 255, 255, 255, 255, 255})
+	d.Crash([]int{256, 256, 256, 256, 256, 256, 256, 256, 256})
+	if l.Cluster().Up(other) || bytes.Equal(d.Image(), most.Image()) {
+		t.Fatalf("Up %v, or no write has a last byte", l.Cluster().Up(other))
+	}
+	wantRestart(t, l)
+	if !bytes.Equal(l.Cluster().Images()[other], d.Image()) {
+		t.Error("not all is kept")
+	}
+	wantQuiet(t, l)
 }
 
 // P22.4: a Restart lets what is on its way arrive, and an answer be told.

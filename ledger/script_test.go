@@ -48,7 +48,7 @@ func (p *play) few(names []string, most int) (api.Op, bool) {
 	return o, true
 }
 
-// P22.5, P22.6, P22.7, P2, P3, P4, P5, P6: whatever the script, what was told is as if one operation was done after another; behind a Restart all comes to rest, is answered, and is answered as it was.
+// P22.5, P22.6, P22.7, P2, P3, P4, P5, P6, P8: whatever the script, what was told is as if one operation was done after another; behind a Restart all comes to rest, is answered, and is answered as it was.
 func TestScripts(t *testing.T) {
 	names := []string{"ann", "bob", "cy", "dora"}
 	seen := map[[2]int]int{}
@@ -60,6 +60,9 @@ func TestScripts(t *testing.T) {
 		}
 		for range 100 + p.r.Intn(300) {
 			p.any(func() (api.Op, bool) { return p.few(names, 18) })
+			if p.r.Intn(20) == 0 {
+				p.wantAgreed()
+			}
 		}
 		p.restart()
 		if p.r.Intn(2) == 0 {
@@ -74,6 +77,7 @@ func TestScripts(t *testing.T) {
 		p.wantSameAnswers()
 		p.do(api.Op{Kind: api.Audit})
 		p.quiet()
+		p.wantAgreed()
 		for _, c := range p.l.Calls() {
 			seen[[2]int{c.Op.Kind, int(c.Reply.Why)}]++
 		}
